@@ -1,0 +1,1 @@
+"""What a key and a lock give away."""
